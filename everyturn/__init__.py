@@ -1,0 +1,1 @@
+"""Everyturn: programs of threads, and all their turns."""

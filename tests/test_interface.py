@@ -1,0 +1,33 @@
+"""The interface: where each function and class is defined, and the names of its arguments."""
+
+import importlib
+import inspect
+import unittest
+
+INTERFACE = {
+    "errors": {"TurnError": None, "ProgramFault": "line word", "NotEnabled": "at", "TooMany": "limit",
+               "NoSuchPlace": "word", "NothingToUndo": None},
+    "values": {"is_value": "n", "operate": "sign x y"},
+    "tokens": {"tokens": "line"},
+    "expressions": {"read_expression": "parts", "write_expression": "tree", "evaluate": "tree registers"},
+}
+
+
+class InterfaceTest(unittest.TestCase):
+    def test_each_name_is_defined_in_its_file(self):
+        for name, listed in INTERFACE.items():
+            module = importlib.import_module(f"everyturn.{name}")
+            for word in listed:
+                self.assertEqual(getattr(module, word).__module__, f"everyturn.{name}", word)
+
+    def test_arguments_have_their_names_and_order(self):
+        for name, listed in INTERFACE.items():
+            module = importlib.import_module(f"everyturn.{name}")
+            for word, arguments in listed.items():
+                if arguments is not None:
+                    signature = inspect.signature(getattr(module, word))
+                    self.assertEqual(" ".join(signature.parameters), arguments, (name, word))
+
+
+if __name__ == "__main__":
+    unittest.main()
