@@ -15,6 +15,12 @@ EXPRESSIONS = '''
 'range'
 '''
 
+PROGRAMS = r'''
+>>> from everyturn.programs import read_program
+>>> read_program("var x = -3\nthread\nput x a + 1\n")
+((('var', 'x', -3),), ((('put', 'x', ('op', '+', ('reg', 'a'), ('num', 1))),),))
+'''
+
 
 class ExamplesTest(unittest.TestCase):
     def check(self, name, text):
@@ -26,6 +32,9 @@ class ExamplesTest(unittest.TestCase):
 
     def test_expressions(self):
         self.check("expressions", EXPRESSIONS)
+
+    def test_programs(self):
+        self.check("programs", PROGRAMS)
 
     def test_readme(self):
         self.check("README.md", README.read_text(encoding="ascii"))

@@ -10,6 +10,12 @@ INTERFACE = {
     "values": {"is_value": "n", "operate": "sign x y"},
     "tokens": {"tokens": "line"},
     "expressions": {"read_expression": "parts", "write_expression": "tree", "evaluate": "tree registers"},
+    "instructions": {"is_name": "text", "expression_of": "instruction", "thing_of": "instruction"},
+    "programs": {"read_program": "text", "kind_of": "program name", "names_of": "program kind",
+                 "lock_of": "program cond"},
+    "writing": {"write_program": "program", "write_instruction": "instruction"},
+    "machine": {"first_state": "program", "enabled": "program state", "blocked": "program state",
+                "make_step": "program state thread", "is_deadlock": "program state"},
 }
 
 
