@@ -8,7 +8,7 @@ RESERVED = (
     "send", "take", "check", "go", "if", "begin", "end", "stop", "and", "or", "not",
 )
 
-# The places of a form: R a register, X a name, N a number, and V a first value or E an expression at its end.
+# The places of a form: R for registers, X for names, N for numbers, and at its end V for a first value or E.
 PLACES = ("R", "X", "N", "V", "E")
 PLAIN_GO = "go N"
 FORMS = (
