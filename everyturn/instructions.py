@@ -8,7 +8,8 @@ RESERVED = (
     "send", "take", "check", "go", "if", "begin", "end", "stop", "and", "or", "not",
 )
 
-# The places of a form: R for registers, X for names, N for numbers, and at its end V for a first value or E.
+# The places of a form: R for registers, X for names, N for numbers; at its end V for a first value, E for an
+# expression.
 PLACES = ("R", "X", "N", "V", "E")
 PLAIN_GO = "go N"
 FORMS = (

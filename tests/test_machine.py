@@ -476,8 +476,8 @@ class EnabledAndBlockedTest(unittest.TestCase):
         self.assertEqual(blocked(program, state), ((1, "q"), (3, "m")))
 
     def test_all_kinds_of_blocked_threads(self):
-        program = build("lock m; wait w; stop", "lock m; wait w; stop", "lock m; notify w; send q 1; send q 2; send q 3",
-                        "lock m; stop")
+        program = build("lock m; wait w; stop", "lock m; wait w; stop",
+                        "lock m; notify w; send q 1; send q 2; send q 3", "lock m; stop")
         state = play(program, (0, 0, 1, 1, 2, 2, 2, 2))[0]
         self.assertEqual(enabled(program, state), ())
         self.assertEqual(blocked(program, state), ((0, "m"), (1, "w"), (2, "q"), (3, "m")))
