@@ -21,6 +21,36 @@ PROGRAMS = r'''
 ((('var', 'x', -3),), ((('put', 'x', ('op', '+', ('reg', 'a'), ('num', 1))),),))
 '''
 
+SCHEDULES = r'''
+>>> from everyturn.programs import read_program
+>>> from everyturn.schedules import run
+>>> from everyturn.showing import show_state
+>>> program = read_program("var x = 2\nlock m\nthread\nlock m\nput x 5\n")
+>>> run(program, (0,))[1]
+((0, 0, (('m', True),), None),)
+>>> show_state(program, run(program, (0,))[0])
+'x=2 m=0 | 0:1 (0 0 0 0) run'
+'''
+
+CLASSES = '''
+>>> from everyturn.classes import class_size, least
+>>> one = (1, 0, (("x", True),), None)
+>>> other = (0, 0, (("y", True),), None)
+>>> least((one, other)) == (other, one)
+True
+>>> class_size((one, other))
+2
+'''
+
+COUNTING = r'''
+>>> from everyturn.exploring import executions, tried
+>>> from everyturn.programs import read_program
+>>> text = "var x = 0\nvar y = 0\nthread\nput x 1\nget a y\nthread\nput y 1\nget a x\n"
+>>> program = read_program(text)
+>>> [entry[0] for entry in executions(program, 40, 100)]
+[(0, 0, 1, 1), (0, 1, 0, 1), (1, 1, 0, 0)]
+'''
+
 
 class ExamplesTest(unittest.TestCase):
     def check(self, name, text):
@@ -35,6 +65,15 @@ class ExamplesTest(unittest.TestCase):
 
     def test_programs(self):
         self.check("programs", PROGRAMS)
+
+    def test_schedules(self):
+        self.check("schedules", SCHEDULES)
+
+    def test_classes(self):
+        self.check("classes", CLASSES)
+
+    def test_counting(self):
+        self.check("counting", COUNTING)
 
     def test_readme(self):
         self.check("README.md", README.read_text(encoding="ascii"))

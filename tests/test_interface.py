@@ -16,6 +16,12 @@ INTERFACE = {
     "writing": {"write_program": "program", "write_instruction": "instruction"},
     "machine": {"first_state": "program", "enabled": "program state", "blocked": "program state",
                 "make_step": "program state thread", "is_deadlock": "program state"},
+    "showing": {"show_state": "program state"},
+    "schedules": {"run": "program schedule", "switches": "schedule"},
+    "order": {"dependent": "one other", "before": "steps", "clocks": "steps threads"},
+    "classes": {"least": "steps", "is_least": "steps", "equivalent": "one other", "class_size": "steps",
+                "rows_of_class": "steps most"},
+    "exploring": {"tried": "program limit most", "executions": "program limit most"},
 }
 
 

@@ -3,16 +3,7 @@
 import unittest
 
 from everyturn.machine import blocked, enabled, first_state, is_deadlock, make_step
-from everyturn.programs import read_program
-
-THINGS = "var x = 2\nvar y = -7\nlock m\nlock n\ncond w of m\nqueue q 2\n"
-ZERO = (0, 0, 0, 0)
-
-
-def build(*threads, things=THINGS):
-    """The program with these threads, each given as its lines with semicolons between them."""
-    lines = [line.strip() for thread in threads for line in ("thread; " + thread).split(";")]
-    return read_program(things + "\n".join(lines) + "\n")
+from helper import ZERO, build
 
 
 def play(program, schedule):
@@ -27,7 +18,7 @@ def play(program, schedule):
 
 
 def state_of(values=(2, -7), owners=(None, None), items=(), waiting=(), threads=()):
-    """A state for the shared things above."""
+    """A state for the shared things of helper.build."""
     return (values, owners, (items,), (waiting,), threads)
 
 
