@@ -44,9 +44,12 @@ True
 
 COUNTING = r'''
 >>> from everyturn.exploring import executions, tried
+>>> from everyturn.counting import count_executions
 >>> from everyturn.programs import read_program
 >>> text = "var x = 0\nvar y = 0\nthread\nput x 1\nget a y\nthread\nput y 1\nget a x\n"
 >>> program = read_program(text)
+>>> count_executions(program, 40)
+6
 >>> [entry[0] for entry in executions(program, 40, 100)]
 [(0, 0, 1, 1), (0, 1, 0, 1), (1, 1, 0, 0)]
 '''

@@ -22,6 +22,10 @@ INTERFACE = {
     "classes": {"least": "steps", "is_least": "steps", "equivalent": "one other", "class_size": "steps",
                 "rows_of_class": "steps most"},
     "exploring": {"tried": "program limit most", "executions": "program limit most"},
+    "counting": {"count_executions": "program limit"},
+    "failures": {"failures": "steps", "deadlocks": "program state", "rings": "program state"},
+    "races": {"race_pairs": "program steps", "races": "program steps"},
+    "notices": {"lost_notices": "program schedule"},
 }
 
 
