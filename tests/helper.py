@@ -69,6 +69,78 @@ def schedule_of(steps):
     return tuple(step[0] for step in steps)
 
 
+def pairs_by_trying(program, steps):
+    """[f3]: the pairs of steps that race, as those that are dependent neighbours in some equivalent row."""
+    variables = [thing[1] for thing in program[0] if thing[0] == "var"]
+    own = numbered(steps)
+    found = set()
+    for row in class_of(steps):
+        known = numbered(row)
+        for at in range(len(row) - 1):
+            one, other = row[at], row[at + 1]
+            plain = [step for step in (one, other) if program[1][step[0]][step[1]][0] in ("get", "put")]
+            if one[0] != other[0] and plain and depend(one, other):
+                names = [touch[0] for touch in one[2] if touch[0] in dict(other[2])]
+                found.update((own.index(known[at]), own.index(known[at + 1]), name)
+                             for name in names if name in variables)
+    return sorted(found)
+
+
+def numbered(row):
+    """For each step of a row its thread, and how many steps of this thread stand before it."""
+    threads = [step[0] for step in row]
+    return [(thread, threads[:at].count(thread)) for at, thread in enumerate(threads)]
+
+
+def races_by_trying(program, steps):
+    """The races of a row, told as [f3] says."""
+    return [("race", *min(steps[i], steps[j])[:2], *max(steps[i], steps[j])[:2], name)
+            for i, j, name in pairs_by_trying(program, steps)]
+
+
+def lost_by_trying(program, schedule):
+    """The lost notices of a schedule, by the words of [f4]."""
+    state = first_state(program)
+    unheard = []
+    for thread in schedule:
+        pc = state[4][thread][0]
+        instruction = program[1][thread][pc]
+        if instruction[0] in ("notify", "notifyall") and instruction[1] not in awaited(program, state):
+            unheard.append(("lost", thread, pc, instruction[1]))
+        state = make_step(program, state, thread)[0]
+    if enabled(program, state):
+        return []
+    return [told for told in unheard if told[3] in awaited(program, state)]
+
+
+def awaited(program, state):
+    """The conditions that some thread waits for, told by the threads themselves."""
+    return [program[1][thread][entry[0]][1] for thread, entry in enumerate(state[4]) if entry[2] == "wait"]
+
+
+def blocks_by_trying(program, steps):
+    """The blocks of a row as tuples of indexes, by the words of [b1]."""
+    words = [program[1][step[0]][step[1]][0] for step in steps]
+    found = []
+    for begin, word in enumerate(words):
+        if word == "begin":
+            own = [at for at in range(begin, len(steps)) if steps[at][0] == steps[begin][0]]
+            ends = [at for at in own if words[at] == "end"]
+            found.append(tuple(own[:own.index(ends[0]) + 1] if ends else own))
+    return found
+
+
+def broken_by_trying(program, steps):
+    """The broken blocks of a row, by the words of [b1]."""
+    found = []
+    for block in blocks_by_trying(program, steps):
+        for at, step in enumerate(steps):
+            between = (any(happens(steps, i, at) for i in block) and any(happens(steps, at, i) for i in block))
+            if between and step[0] != steps[block[0]][0]:
+                found.append(("broken", *steps[block[0]][:2], *step[:2]))
+    return found
+
+
 def random_row(number, threads=3, length=7):
     """A row of steps that belongs to no program, another one for each number."""
     chance = random.Random(number)
@@ -110,3 +182,20 @@ PROGRAMS = [random_program(number) for number in range(120)] + [
     build("go 0", "go 0", things=""),
 ]
 LIMIT = 6
+
+BLOCK_LINES = ("begin; get a x; put x a + 1; end", "begin; put x 1; add x 1; end", "begin; put y 1; put x 2; end",
+               "add x 1; get a y", "begin; let a = a + 1; add x 1; go 1 if a < 2; end", "put x 3", "get b x",
+               "begin; add x 1; go 0 if a < 2; end", "lock m; begin; unlock m; add x 1; end", "send q 1; add x 1",
+               "go 2; begin; add x 1; end", "begin; add x 1; go 5; end; begin; end", "begin; get a x; check a < 2; end",
+               "begin; take a q; add x 1; end")
+
+
+def random_block_program(number):
+    """A program of two or three short threads with blocks, another one for each number."""
+    chance = random.Random(number)
+    threads = chance.choice([2, 2, 3])
+    texts = ["; ".join(chance.choices(BLOCK_LINES, k=chance.randint(1, 2))) for _ in range(threads)]
+    return build(*texts, things="var x = 0\nvar y = 2\nlock m\nqueue q 1\n")
+
+
+BLOCK_PROGRAMS = [random_block_program(number) for number in range(60)]

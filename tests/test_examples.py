@@ -54,6 +54,39 @@ COUNTING = r'''
 [(0, 0, 1, 1), (0, 1, 0, 1), (1, 1, 0, 0)]
 '''
 
+FAULTS = r'''
+>>> from everyturn.faults import finds
+>>> from everyturn.programs import read_program
+>>> text = "var x = 0\nthread\nget a x\nput x a + 1\nthread\nget a x\nput x a + 1\n"
+>>> for find in finds(read_program(text), 40, 100):
+...     print(find)
+(('race', 0, 0, 1, 1, 'x'), (0, 1, 1, 0))
+(('race', 0, 1, 1, 0, 'x'), (0, 0, 1, 1))
+(('race', 0, 1, 1, 1, 'x'), (0, 1, 0, 1))
+'''
+
+OBSERVERS = r'''
+>>> from everyturn.observers import outcomes
+>>> from everyturn.programs import read_program
+>>> text = "var x = 0\nthread\nget a x\nput x a + 1\nthread\nadd x 1\n"
+>>> for entry in outcomes(read_program(text), 40, 100):
+...     print(entry)
+(((1,), ('over', 'over')), (0, 1, 0))
+(((2,), ('over', 'over')), (0, 0, 1))
+'''
+
+BENCH = r'''
+>>> from everyturn.bench import Bench
+>>> from everyturn.programs import read_program
+>>> text = "var x = 0\nthread\nput x 1\nput x 2\nthread\nget a x\ncheck a < 2\n"
+>>> bench = Bench(read_program(text), 40, 100)
+>>> bench.work()
+15
+>>> bench.change(0, 1, "put x 1")
+>>> bench.finds()[0][0]
+('race', 0, 0, 1, 0, 'x')
+'''
+
 
 class ExamplesTest(unittest.TestCase):
     def check(self, name, text):
@@ -77,6 +110,15 @@ class ExamplesTest(unittest.TestCase):
 
     def test_counting(self):
         self.check("counting", COUNTING)
+
+    def test_faults(self):
+        self.check("faults", FAULTS)
+
+    def test_observers(self):
+        self.check("observers", OBSERVERS)
+
+    def test_bench(self):
+        self.check("bench", BENCH)
 
     def test_readme(self):
         self.check("README.md", README.read_text(encoding="ascii"))

@@ -26,7 +26,15 @@ INTERFACE = {
     "failures": {"failures": "steps", "deadlocks": "program state", "rings": "program state"},
     "races": {"race_pairs": "program steps", "races": "program steps"},
     "notices": {"lost_notices": "program schedule"},
+    "blocks": {"block_steps": "program steps", "broken_blocks": "program steps"},
+    "faults": {"faults_of": "program schedule", "finds": "program limit most"},
+    "observers": {"outcome": "program schedule", "outcomes": "program limit most",
+                  "history": "program schedule name", "histories": "program name limit most",
+                  "difference": "one other limit most"},
+    "bench": {"Bench": "program limit most"},
 }
+METHODS = {"program": "", "tried": "", "executions": "", "finds": "", "change": "thread pc line", "undo": "",
+           "work": ""}
 
 
 class InterfaceTest(unittest.TestCase):
@@ -43,6 +51,11 @@ class InterfaceTest(unittest.TestCase):
                 if arguments is not None:
                     signature = inspect.signature(getattr(module, word))
                     self.assertEqual(" ".join(signature.parameters), arguments, (name, word))
+
+    def test_methods_stand_in_their_class_itself(self):
+        own = vars(importlib.import_module("everyturn.bench").Bench)
+        for name, arguments in METHODS.items():
+            self.assertEqual(" ".join(inspect.signature(own[name]).parameters), ("self " + arguments).strip(), name)
 
 
 if __name__ == "__main__":

@@ -3,9 +3,8 @@
 import unittest
 
 from everyturn.errors import NotEnabled, TurnError
-from everyturn.machine import enabled, first_state, make_step
 from everyturn.notices import lost_notices
-from helper import LIMIT, PROGRAMS, build, class_of, complete, possible, schedule_of
+from helper import LIMIT, PROGRAMS, build, class_of, complete, lost_by_trying, possible, schedule_of
 
 WAIT = "lock m; wait w; unlock m"
 
@@ -115,26 +114,6 @@ class NotEnabledTest(unittest.TestCase):
         self.assert_stops(program, (1, 0, 0, 0), 3)
         self.assert_stops(program, (0, 0, 0, 1), 2)
         self.assert_stops(build("take a q", "notify w"), (0, 1), 0)
-
-
-def lost_by_trying(program, schedule):
-    """The lost notices of an execution, by the words of [f4]."""
-    state = first_state(program)
-    unheard = []
-    for thread in schedule:
-        pc = state[4][thread][0]
-        instruction = program[1][thread][pc]
-        if instruction[0] in ("notify", "notifyall") and instruction[1] not in awaited(program, state):
-            unheard.append(("lost", thread, pc, instruction[1]))
-        state = make_step(program, state, thread)[0]
-    if enabled(program, state):
-        return []
-    return [told for told in unheard if told[3] in awaited(program, state)]
-
-
-def awaited(program, state):
-    """The conditions that some thread waits for, told by the threads themselves."""
-    return [program[1][thread][entry[0]][1] for thread, entry in enumerate(state[4]) if entry[2] == "wait"]
 
 
 if __name__ == "__main__":

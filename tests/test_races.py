@@ -5,7 +5,7 @@ import unittest
 from everyturn.exploring import executions
 from everyturn.races import race_pairs, races
 from everyturn.schedules import run
-from helper import LIMIT, PROGRAMS, act, build, class_of, complete, depend
+from helper import LIMIT, PROGRAMS, act, build, class_of, complete, pairs_by_trying
 
 
 def pairs_of(program, schedule):
@@ -149,29 +149,6 @@ class RacesTest(unittest.TestCase):
             for _, steps, _ in complete(program, LIMIT)[::7]:
                 for other in class_of(steps)[:20]:
                     self.assertEqual(sorted(races(program, other)), sorted(races(program, steps)))
-
-
-def pairs_by_trying(program, steps):
-    """The pairs of steps that race, as those that are dependent neighbours in some equivalent row."""
-    variables = [thing[1] for thing in program[0] if thing[0] == "var"]
-    own = numbered(steps)
-    found = set()
-    for row in class_of(steps):
-        known = numbered(row)
-        for at in range(len(row) - 1):
-            one, other = row[at], row[at + 1]
-            plain = [step for step in (one, other) if program[1][step[0]][step[1]][0] in ("get", "put")]
-            if one[0] != other[0] and plain and depend(one, other):
-                names = [touch[0] for touch in one[2] if touch[0] in dict(other[2])]
-                found.update((own.index(known[at]), own.index(known[at + 1]), name)
-                             for name in names if name in variables)
-    return sorted(found)
-
-
-def numbered(row):
-    """For each step of a row its thread, and how many steps of this thread stand before it."""
-    threads = [step[0] for step in row]
-    return [(thread, threads[:at].count(thread)) for at, thread in enumerate(threads)]
 
 
 if __name__ == "__main__":
