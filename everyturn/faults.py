@@ -33,13 +33,8 @@ def finds_among(program, entries):
 
 def _faults_in(program, schedule, steps, state):
     """Return the list of the faults of a schedule with its steps and its last state, some perhaps more than once."""
-    return [
-        *failures(steps),
-        *deadlocks(program, state),
-        *races(program, steps),
-        *lost_notices(program, schedule),
-        *broken_blocks(program, steps),
-    ]
+    of_steps = failures(steps) + races(program, steps) + broken_blocks(program, steps)
+    return of_steps + deadlocks(program, state) + lost_notices(program, schedule)
 
 
 def _in_order(faults):

@@ -65,7 +65,7 @@ def _hindrance(program, state, thread):
 
 def _is_full(program, state, queue):
     sizes = [thing[2] for thing in program[0] if thing[1] == queue]
-    return len(content_of(program, state, queue)) == sizes[0]
+    return len(content_of(program, state, queue)) >= sizes[0]
 
 
 def content_of(program, state, name):
@@ -121,7 +121,7 @@ def _take_lock_again(program, state, thread):
     pc = state[THREADS][thread][0]
     cond = program[1][thread][pc][1]
     lock = lock_of(program, cond)
-    owned = _with_content(program, state, lock, thread)
+    owned = _with_mode(_with_content(program, state, lock, thread), thread, "run")
     # The condition is read, so that this step is not exchanged with the notice that woke the thread.
     return _moved_to(program, owned, thread, pc + 1), (thread, pc, ((lock, True), (cond, False)), None)
 
@@ -154,9 +154,9 @@ def _moved_on(program, state, thread, value):
 
 
 def _moved_to(program, state, thread, pc):
-    registers = state[THREADS][thread][1]
-    mode = "over" if pc == len(program[1][thread]) else "run"
-    return _with_thread(state, thread, (pc, registers, mode, None))
+    _, registers, mode, word = state[THREADS][thread]
+    at_end = pc == len(program[1][thread])
+    return _with_thread(state, thread, (pc, registers, "over" if at_end else mode, word))
 
 
 def _effect(program, state, thread, value):

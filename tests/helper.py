@@ -5,7 +5,7 @@ The functions below know nothing of the modules that they are compared with: the
 
 import random
 
-from everyturn.machine import enabled, first_state, make_step
+from everyturn.machine import blocked, enabled, first_state, make_step
 from everyturn.programs import read_program
 
 THINGS = "var x = 2\nvar y = -7\nlock m\nlock n\ncond w of m\nqueue q 2\n"
@@ -141,6 +141,49 @@ def broken_by_trying(program, steps):
     return found
 
 
+KINDS = ["failure", "deadlock", "race", "lost", "broken"]
+
+
+def rank_of_fault(fault):
+    """[f5]: the kinds in their order, faults of one kind by their tuples."""
+    return KINDS.index(fault[0]), fault
+
+
+def faults_by_trying(program, schedule, steps, state):
+    """The faults of a schedule, by the words of [f1] to [b1], in the order of [f5]."""
+    found = {("failure", step[0], step[1], step[3]) for step in steps if step[3] is not None}
+    if blocked(program, state) and not enabled(program, state):
+        found.add(("deadlock", blocked(program, state)))
+    found.update(races_by_trying(program, steps))
+    found.update(lost_by_trying(program, schedule))
+    found.update(broken_by_trying(program, steps))
+    return sorted(found, key=rank_of_fault)
+
+
+def finds_by_trying(program, limit):
+    """[f6]: the finds of a program, from all its executions and their classes."""
+    found = {}
+    for schedule, steps, state in complete(program, limit):
+        for fault in faults_by_trying(program, schedule, steps, state):
+            found.setdefault(fault, set()).add(schedule_of(class_of(steps)[0]))
+    return [(fault, min(found[fault])) for fault in sorted(found, key=rank_of_fault)]
+
+
+def spans_by_trying(program, thread, name):
+    """[r1], [r4]: the spans of a thread that can be guarded and are for a variable, or for any with the name None."""
+    rows = program[1][thread]
+    found = []
+    for first in range(len(rows)):
+        for last in range(first, len(rows)):
+            kinds = all(row[0] in ("let", "get", "put", "add", "check") for row in rows[first:last + 1])
+            led_to = [row[1] for row in rows if row[0] == "go" and row[1] in range(first + 1, last + 1)]
+            names = all(at[0] in ("get", "put", "add") and name == (at[2] if at[0] == "get" else at[1])
+                        for at in (rows[first], rows[last]))
+            if kinds and not led_to and (names or name is None):
+                found.append((first, last))
+    return found
+
+
 def random_row(number, threads=3, length=7):
     """A row of steps that belongs to no program, another one for each number."""
     chance = random.Random(number)
@@ -199,3 +242,20 @@ def random_block_program(number):
 
 
 BLOCK_PROGRAMS = [random_block_program(number) for number in range(60)]
+
+
+GUARDED_LINES = ("get a x", "put x a + 1", "get a x; put x a + 1", "add x 1", "let a = a + 1", "go 1 if a = 0",
+                 "get b x", "check a < 2", "get b y; put y b", "put x 1", "lock m; put x 3; unlock m", "send q a",
+                 "take b q")
+
+
+def random_guarded_program(number):
+    """A program of two or three short threads with room for one more lock, another one for each number."""
+    chance = random.Random(number)
+    threads = chance.choice([2, 2, 3])
+    lines = GUARDED_LINES[:chance.choice([8, 13])]
+    texts = ["; ".join(chance.choices(lines, k=chance.randint(1, 5 - threads))) for _ in range(threads)]
+    return build(*texts, things="var x = 0\nvar y = 2\nlock m\nqueue q 1\n")
+
+
+GUARDED_PROGRAMS = [random_guarded_program(number) for number in range(60)]

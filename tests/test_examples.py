@@ -87,6 +87,22 @@ BENCH = r'''
 ('race', 0, 0, 1, 0, 'x')
 '''
 
+REPAIRS = r'''
+>>> from everyturn.programs import read_program
+>>> from everyturn.repairs import least_repairs
+>>> text = "var x = 0\nthread\nget a x\nput x a + 1\nthread\nadd x 1\n"
+>>> least_repairs(read_program(text), "x", "guard", 40, 1000)
+[((0, 1), (0, 0))]
+'''
+
+JUDGE = r'''
+>>> from everyturn.nearest import nearest
+>>> from everyturn.programs import read_program
+>>> text = "lock m\nlock n\nthread\nlock m\nlock n\nthread\nlock n\nlock m\n"
+>>> nearest(read_program(text), ("deadlock", ((0, "n"), (1, "m"))), 10)
+(0, 1)
+'''
+
 
 class ExamplesTest(unittest.TestCase):
     def check(self, name, text):
@@ -119,6 +135,12 @@ class ExamplesTest(unittest.TestCase):
 
     def test_bench(self):
         self.check("bench", BENCH)
+
+    def test_repairs(self):
+        self.check("repairs", REPAIRS)
+
+    def test_judge(self):
+        self.check("judge", JUDGE)
 
     def test_readme(self):
         self.check("README.md", README.read_text(encoding="ascii"))

@@ -5,34 +5,11 @@ import unittest
 from everyturn.errors import NotEnabled, TooMany, TurnError
 from everyturn.exploring import executions, tried
 from everyturn.faults import faults_of, finds
-from everyturn.machine import blocked, enabled
-from helper import (BLOCK_PROGRAMS, LIMIT, PROGRAMS, broken_by_trying, build, class_of, complete, lost_by_trying,
-                    possible, races_by_trying, schedule_of)
+from helper import (BLOCK_PROGRAMS, KINDS, LIMIT, PROGRAMS, build, class_of, complete, faults_by_trying,
+                    finds_by_trying, possible, rank_of_fault, schedule_of)
 
 MOST = 3000
 ADDS = build("get a x; put x a + 1", "get a x; put x a + 1", things="var x = 0\n")
-KINDS = ["failure", "deadlock", "race", "lost", "broken"]
-
-
-def faults_by_trying(program, schedule, steps, state):
-    """The faults of a schedule, by the words of [f1] to [b1], in the order of [f5]."""
-    found = {("failure", step[0], step[1], step[3]) for step in steps if step[3] is not None}
-    if blocked(program, state) and not enabled(program, state):
-        found.add(("deadlock", blocked(program, state)))
-    found.update(races_by_trying(program, steps))
-    found.update(lost_by_trying(program, schedule))
-    found.update(broken_by_trying(program, steps))
-    return sorted(found, key=lambda fault: (KINDS.index(fault[0]), fault))
-
-
-def finds_by_trying(program, limit):
-    """The finds of a program, from all its executions and their classes."""
-    found = {}
-    for schedule, steps, state in complete(program, limit):
-        for fault in faults_by_trying(program, schedule, steps, state):
-            found.setdefault(fault, set()).add(schedule_of(class_of(steps)[0]))
-    ranked = sorted(found, key=lambda fault: (KINDS.index(fault[0]), fault))
-    return [(fault, min(found[fault])) for fault in ranked]
 
 
 class FaultsOfTest(unittest.TestCase):
@@ -168,7 +145,7 @@ def finds_from(program, limit):
     for schedule, steps, _ in complete(program, limit):
         for fault in faults_of(program, schedule):
             found.setdefault(fault, []).append(steps)
-    ranked = sorted(found, key=lambda fault: (KINDS.index(fault[0]), fault))
+    ranked = sorted(found, key=rank_of_fault)
     return [(fault, min(schedule_of(class_of(steps)[0]) for steps in found[fault])) for fault in ranked]
 
 

@@ -32,6 +32,12 @@ INTERFACE = {
                   "history": "program schedule name", "histories": "program name limit most",
                   "difference": "one other limit most"},
     "bench": {"Bench": "program limit most"},
+    "guarding": {"spans": "program thread name", "guarded": "program guards name", "inside": "guards other",
+                 "cost": "guards"},
+    "repairs": {"is_safe": "program limit most", "least_repairs": "program variable name limit most"},
+    "nearest": {"leads_to": "program schedule place", "nearest": "program place limit"},
+    "papers": {"paper_of": "program limit"},
+    "judge": {"judge": "program paper"},
 }
 METHODS = {"program": "", "tried": "", "executions": "", "finds": "", "change": "thread pc line", "undo": "",
            "work": ""}

@@ -42,8 +42,7 @@ def bound_names(tree):
 class FilesTest(unittest.TestCase):
     def test_the_package_has_the_files_of_the_document_alone(self):
         names = [path.name for path in PACKAGE.iterdir() if path.name != "__pycache__"]
-        self.assertIn("__init__.py", names)
-        self.assertEqual([name for name in names if name not in [f"{word}.py" for word in ORDER + ["__init__"]]], [])
+        self.assertEqual(sorted(names), sorted(f"{word}.py" for word in ORDER + ["__init__"]))
 
     def test_sizes(self):
         for path in PACKAGE.glob("*.py"):
