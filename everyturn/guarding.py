@@ -44,7 +44,7 @@ def _fits(instructions, span):
     """Tell whether a span is None, or one of a thread that can be guarded."""
     if span is None:
         return True
-    if len(span) != 2 or not 0 <= span[0] <= span[1] < len(instructions):
+    if not isinstance(span, tuple) or len(span) != 2 or not 0 <= span[0] <= span[1] < len(instructions):
         return False
     return _can_be_guarded(instructions, span)
 

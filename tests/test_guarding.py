@@ -209,7 +209,7 @@ class RefusedTest(unittest.TestCase):
             self.assert_word("guards", ADDS, (span, None))
         for span in ((0, 1), (1, 1), (-1, 0), (-1, -1)):
             self.assert_word("guards", ADDS, (None, span))
-        for span in ((), (0,), (0, 0, 0)):
+        for span in ((), (0,), (0, 0, 0), 0, [0, 0], "xx"):
             self.assert_word("guards", ADDS, (span, None))
 
     def test_a_span_that_cannot_be_guarded(self):
